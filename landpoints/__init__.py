@@ -1,0 +1,1 @@
+"""Landpoints: what is sure of land whose shapes nobody knows."""

@@ -1,0 +1,110 @@
+"""One call or more of each function, with the arguments by their names in the order of the document."""
+
+AREAS = ("a", "b", "c")
+CHART = (AREAS, ((("a", True), ("b", False)), (("a", True), ("c", True))))
+BARE = (("a", True), ("c", True))
+NEW_BARE = (("b", True), ("c", True))
+INNER, WIDE = ((("a", True),),), ((("a", False), ("b", True)), (("b", True),), (("c", True),))
+LAND = (("a", "b"), ("b", "c"))
+WORLD = ((("b",), 3, "ann"), (("a", "b"), 4, "bob"), ((), 10 ** 30, "ann"))
+PARCELS = (("east", ((("b", False),),)), ("north", ((("a", True),),)), ("west", ((("a", False), ("b", True)),)))
+WRONG = (("east", ((("b", False),),)), ("north", WIDE))
+LAY = (("east", ((), ("c",))), ("north", (("a", "b"),)), ("void", ()), ("west", (("b",), ("b", "c"))))
+NEAR = (((), ("c",)), (("a", "b"),), (("b",), ("b", "c")))
+FAR = (((), ("b",), ("b", "c")), (("a", "b"), ("c",)))
+PAIRS = (("a", "z"), ("b", "a"), ("q", "c"))
+
+IN_AREAS = (
+    ("is_spot", {"areas": AREAS, "thing": ("a", "c")}),
+    ("is_spot", {"areas": AREAS, "thing": ["a", "c"]}),
+    ("is_condition", {"areas": AREAS, "thing": BARE}),
+    ("is_condition", {"areas": AREAS, "thing": (["a", True],)}),
+    ("is_cut", {"areas": AREAS, "thing": WIDE}),
+    ("is_cut", {"areas": AREAS, "thing": [(("a", True),)]}),
+    ("is_map", {"thing": CHART}),
+    ("is_map", {"thing": (list(AREAS), ())}),
+    ("is_land", {"chart": CHART, "thing": LAND}),
+    ("is_land", {"chart": CHART, "thing": (("a", "b"), ["b", "c"])}),
+    ("is_world", {"chart": CHART, "thing": WORLD}),
+    ("is_world", {"chart": CHART, "thing": ([("b",), 3, "ann"],)}),
+    ("spots_of", {"areas": AREAS}),
+    ("keeps", {"spot": ("a", "b"), "condition": (("a", True), ("c", False))}),
+    ("is_in", {"spot": ("a", "b"), "cut": WIDE}),
+    ("let_spots", {"chart": CHART}),
+    ("land_of", {"chart": CHART, "cut": WIDE}),
+    ("are_alike", {"chart": CHART, "one": INNER, "other": WIDE}),
+    ("are_alike", {"chart": CHART, "one": INNER, "other": ((("a", True), ("b", True)),)}),
+    ("lies_within", {"chart": CHART, "one": INNER, "other": WIDE}),
+    ("lies_within", {"chart": CHART, "one": WIDE, "other": INNER}),
+    ("both_cuts", {"one": INNER, "other": WIDE}),
+    ("size_in", {"world": WORLD, "cut": WIDE}),
+    ("plain_cut", {"chart": CHART, "land": LAND}),
+    ("with_bare", {"chart": CHART, "condition": NEW_BARE}),
+    ("with_bare", {"chart": CHART, "condition": BARE}),
+    ("without_bare", {"chart": CHART, "condition": BARE}),
+    ("without_bare", {"chart": CHART, "condition": NEW_BARE}),
+    ("with_within", {"chart": CHART, "name": "c", "outer": "b"}),
+    ("with_within", {"chart": CHART, "name": "c", "outer": "x"}),
+    ("with_apart", {"chart": CHART, "name": "c", "outer": "b"}),
+    ("with_apart", {"chart": CHART, "name": "c", "outer": "c"}),
+    ("with_all", {"chart": CHART, "names": ("c", "b", "c")}),
+    ("with_all", {"chart": CHART, "names": ()}),
+    ("with_all", {"chart": CHART, "names": ("c", "y", "x")}),
+    ("is_surveyed", {"chart": CHART, "condition": BARE}),
+    ("is_surveyed", {"chart": CHART, "condition": NEW_BARE}),
+    ("needless", {"chart": (AREAS, ((("a", True),), BARE))}),
+    ("with_area", {"chart": CHART, "name": "d"}),
+    ("with_area", {"chart": CHART, "name": "c"}),
+    ("without_area", {"chart": (AREAS + ("d",), CHART[1]), "name": "d"}),
+    ("without_area", {"chart": CHART, "name": "c"}),
+    ("renamed", {"chart": CHART, "pairs": PAIRS}),
+    ("renamed", {"chart": CHART, "pairs": (("a", "c"),)}),
+    ("renamed_cut", {"cut": WIDE, "pairs": PAIRS}),
+    ("felt_areas", {"chart": CHART, "land": LAND}),
+    ("are_enough", {"chart": CHART, "land": LAND, "names": ("c", "a")}),
+    ("are_enough", {"chart": CHART, "land": LAND, "names": ("c", "b", "a")}),
+    ("are_enough", {"chart": CHART, "land": LAND, "names": ("c", "z")}),
+    ("fewest_areas", {"chart": CHART, "land": LAND}),
+)
+
+IN_PLANS = (
+    ("is_parcels", {"chart": CHART, "thing": PARCELS}),
+    ("is_parcels", {"chart": CHART, "thing": (["east", ()],)}),
+    ("left_out", {"chart": CHART, "parcels": WRONG[1:]}),
+    ("doubled", {"chart": CHART, "parcels": WRONG}),
+    ("clashing", {"chart": CHART, "parcels": WRONG}),
+    ("is_plan", {"chart": CHART, "parcels": PARCELS}),
+    ("is_plan", {"chart": CHART, "parcels": WRONG}),
+    ("plan_paper", {"chart": CHART, "parcels": PARCELS}),
+    ("plan_paper", {"chart": CHART, "parcels": WRONG}),
+    ("is_plan_paper", {"chart": CHART, "parcels": WRONG, "thing": ((("c",), 1, "ann"),)}),
+    ("is_plan_paper", {"chart": CHART, "parcels": WRONG, "thing": ([("c",), 1, "ann"],)}),
+    ("lay_of", {"chart": CHART, "parcels": PARCELS}),
+    ("lay_of", {"chart": CHART, "parcels": WRONG}),
+    ("surveys_wanted", {"chart": CHART, "parcels": PARCELS}),
+    ("surveys_wanted", {"chart": CHART, "parcels": WRONG}),
+    ("is_lay", {"chart": CHART, "thing": LAY}),
+    ("is_lay", {"chart": CHART, "thing": LAY[:3] + (["west", (("b",), ("b", "c"))],)}),
+    ("parcel_at", {"lay": LAY, "spot": ("b", "c")}),
+    ("parcel_at", {"lay": LAY, "spot": ("a",)}),
+    ("split_off", {"lay": LAY, "name": "west", "new": "moor", "cut": ((("c", True),),)}),
+    ("split_off", {"lay": LAY, "name": "west", "new": "west", "cut": ()}),
+    ("split_off", {"lay": LAY, "name": "fen", "new": "west", "cut": ()}),
+    ("merged", {"lay": LAY, "one": "west", "other": "east"}),
+    ("merged", {"lay": LAY, "one": "west", "other": "west"}),
+    ("merged", {"lay": LAY, "one": "sea", "other": "fen"}),
+    ("made_of", {"lay": LAY, "cut": ((("b", True),),)}),
+    ("made_of", {"lay": LAY, "cut": ((("c", True),),)}),
+    ("lots_of", {"lay": LAY}),
+    ("least_lots", {"chart": CHART, "cuts": (INNER, WIDE, (), ((),))}),
+    ("are_finer", {"near": NEAR, "far": FAR}),
+    ("are_finer", {"near": NEAR, "far": (((), ("b",), ("b", "c"), ("c",)), (("a", "b"),))}),
+    ("common_lots", {"near": NEAR, "far": FAR}),
+    ("joined_lots", {"near": NEAR, "far": FAR}),
+    ("joined_lots", {"near": NEAR, "far": (((), ("c",)), (("a", "b"), ("b",), ("b", "c")))}),
+    ("fewest_steps", {"near": NEAR, "far": FAR}),
+    ("step_way", {"near": NEAR, "far": FAR}),
+    ("step_way", {"near": NEAR, "far": NEAR}),
+    ("is_step_way", {"near": NEAR, "far": NEAR, "thing": (NEAR,)}),
+    ("is_step_way", {"near": NEAR, "far": FAR, "thing": (NEAR, FAR)}),
+)
