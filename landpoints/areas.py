@@ -1,7 +1,7 @@
 """Areas, surveys and cuts: what of MAPS and CUTS is told by their LANDS."""
 
 from landpoints.errors import Known, NoArea, Unfit
-from landpoints.values import as_set, as_tuples, is_ascending, is_name, is_name_set, is_number, is_row
+from landpoints.values import all_parts, as_set, as_tuples, is_ascending, is_name, is_name_set, is_number, is_row
 
 
 def is_spot(areas, thing):
@@ -46,10 +46,7 @@ def is_world(chart, thing):
 
 def spots_of(areas):
     """The set of all SPOTS of the AREAS."""
-    spots = [()]
-    for name in areas:
-        spots = spots + [spot + (name,) for spot in spots]
-    return as_set(spots)
+    return all_parts(areas)
 
 
 def keeps(spot, condition):

@@ -13,6 +13,14 @@ def as_set(values):
     return tuple(sorted(set(values)))
 
 
+def all_parts(members):
+    """The ascending tuple of all sets of some of the members, which ascend."""
+    parts = [()]
+    for member in members:
+        parts = parts + [part + (member,) for part in parts]
+    return tuple(sorted(parts))
+
+
 def is_number(thing):
     """Whether thing is a number: True and False are none."""
     return isinstance(thing, int) and not isinstance(thing, bool)
@@ -38,6 +46,11 @@ def is_ascending(row):
 def is_name_set(thing):
     """Whether thing is a set of NAMES."""
     return isinstance(thing, tuple) and all([is_name(name) for name in thing]) and is_ascending(thing)
+
+
+def is_number_set(thing):
+    """Whether thing is a set of numbers."""
+    return isinstance(thing, tuple) and all([is_number(number) for number in thing]) and is_ascending(thing)
 
 
 def is_named_row(thing):

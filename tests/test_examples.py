@@ -1,12 +1,15 @@
 """The examples of the document, line by line; the names of one file go on into the next one."""
 
 import unittest
+from importlib import import_module
 from pathlib import Path
 
-from landpoints import areas, errors, plans
+from landpoints import errors
 
 FOLDER = Path(__file__).parent / "examples"
-FILES = ("areas.txt", "plans.txt")
+# In the order of the document, with the number of examples of each.
+FILES = {"areas": 9, "plans": 12, "titles": 10, "searches": 10, "ways": 10, "wrongs": 9, "charges": 9, "wholes": 10,
+         "orders": 12}
 
 
 def calls_in(text):
@@ -35,14 +38,16 @@ class Examples(unittest.TestCase):
             self.assertEqual(repr(eval(call, names)), below)
 
     def test_all_lines(self):
-        names = {**vars(areas), **vars(plans), **vars(errors)}
-        many = 0
+        names = {}
         for file in FILES:
-            for call, below in calls_in((FOLDER / file).read_text()):
+            names.update(vars(import_module(f"landpoints.{file}")))
+        for file, wanted in FILES.items():
+            many = 0
+            for call, below in calls_in((FOLDER / f"{file}.txt").read_text()):
                 with self.subTest(file=file, call=call):
                     self.look_at(call, below, names)
                 many += 1
-        self.assertEqual(many, 21)
+            self.assertEqual(many, wanted, file)
 
 
 if __name__ == "__main__":
