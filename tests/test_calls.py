@@ -4,11 +4,16 @@ import inspect
 import unittest
 from copy import deepcopy
 
-from landpoints import areas, plans
-from tests.calls import IN_AREAS, IN_PLANS
+from landpoints import areas, charges, orders, plans, searches, titles, ways, wholes, wrongs
+from tests import calls, deed_calls
 from tests.plain import same
 
-CALLS = [(areas, name, given) for name, given in IN_AREAS] + [(plans, name, given) for name, given in IN_PLANS]
+GROUPS = {areas: calls.IN_AREAS, plans: calls.IN_PLANS, titles: deed_calls.IN_TITLES, searches: deed_calls.IN_SEARCHES,
+          ways: deed_calls.IN_WAYS, wrongs: deed_calls.IN_WRONGS, charges: deed_calls.IN_CHARGES,
+          wholes: deed_calls.IN_WHOLES, orders: deed_calls.IN_ORDERS}
+CALLS = [(module, name, given) for module, group in GROUPS.items() for name, given in group]
+# Their results are lists.
+LISTS = ("healed", "guesses", "let_orders", "loosest_waits")
 
 LISTED = {
     areas: "is_spot is_condition is_cut is_map is_land is_world spots_of keeps is_in let_spots land_of are_alike "
@@ -17,6 +22,25 @@ LISTED = {
     plans: "is_parcels left_out doubled clashing is_plan plan_paper is_plan_paper lay_of surveys_wanted is_lay "
            "parcel_at split_off merged made_of lots_of least_lots are_finer common_lots joined_lots fewest_steps "
            "step_way is_step_way".split(),
+    titles: "is_deed is_history people_in stranger_to owners_along owner_behind first_owners sure_land maybe_land "
+            "unsettled_land passed_land surely_has title_paper is_title_paper felt_land idle_deeds wanted_land "
+            "same_titles parted_land parted_world is_parted_world can_go fewest_deeds is_passing makes fewest_to_make "
+            "making is_making".split(),
+    searches: "is_view is_filling unseen_places seen_at with_taker sure_owner may_own land_sure_of unsure_land chain "
+              "least_search is_search unsure_paper is_unsure_paper next_looks searched ever_looked most_looks "
+              "saved_looks left_behind".split(),
+    ways: "way_behind way_along ways_in goes_in ended_in all_may_go no_go is_no_go may_go none_has_way a_way is_a_way "
+          "served borne can_cross sure_cross ending_deeds idle_ways same_ways unlike_ways is_unlike_ways".split(),
+    wrongs: "struck wrong_land wrong_behind healed do_otherwise wrong_paper is_wrong_paper fewest_struck can_own "
+            "doubt_land settled_land mattering doubt_paper is_doubt_paper fewest_proofs moved late_land latest "
+            "earliest".split(),
+    charges: "charges_in charges_behind charge_table charge_land ahead_land rank_land worst_rank charges_part "
+             "charges_alike idle_charges must_yield one_row charge_round is_charge_round".split(),
+    wholes: "wholes_of played let_wholes owners_in ground can_come guesses fewest_points world_for is_world_for "
+            "sure_wholes against_land idle_checks sure_behind maybe_behind same_owners fewest_split split_world "
+            "is_split_world".split(),
+    orders: "is_waits closed_waits is_order how_many_orders let_orders in_order waits_hold end_holds land_apart "
+            "waits_paper is_waits_paper end_paper is_end_paper loosest_waits needed_waits".split(),
 }
 
 
@@ -70,7 +94,25 @@ class Calls(unittest.TestCase):
     def test_no_lists_come_back(self):
         for function, given in self.each_call():
             for other in with_lists(given):
-                self.assertFalse(has_list(outcome(function, **other)[1]))
+                result = outcome(function, **other)[1]
+                if function.__name__ in LISTS and isinstance(result, list):
+                    result = tuple(result)
+                self.assertFalse(has_list(result))
+
+    def test_returned_lists_are_new(self):
+        """What a caller does to such a list shows in no other result."""
+        seen = set()
+        for function, given in self.each_call():
+            if function.__name__ in LISTS:
+                first = function(**given)
+                wanted = deepcopy(first)
+                self.assertIs(type(first), list)
+                self.assertIsNot(function(**given), first)
+                first.append("more")
+                first.reverse()
+                self.assertEqual(function(**given), wanted)
+                seen.add(function.__name__)
+        self.assertEqual(seen, set(LISTS))
 
     def test_arguments_are_not_changed(self):
         for function, given in self.each_call():
@@ -93,7 +135,7 @@ class Calls(unittest.TestCase):
 
 class Interface(unittest.TestCase):
     def test_defined_where_listed(self):
-        self.assertEqual([len(names) for names in LISTED.values()], [30, 22])
+        self.assertEqual([len(names) for names in LISTED.values()], [30, 22, 28, 20, 21, 19, 14, 19, 15])
         for module, names in LISTED.items():
             for name in names:
                 with self.subTest(name=name):
