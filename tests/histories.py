@@ -6,6 +6,8 @@ from tests import grounds
 
 PEOPLE = ("ann", "bob", "cid", "dan")
 CHARGES = ("debt", "loan", "rent")
+# NAMES of areas, and of the first strangers that come to mind; people and charges may well have them all.
+SHORT = ("a", "b", "c", "d")
 TITLES = ("give", "give", "give", "vest", "swap")
 ALL_WORDS = TITLES + ("way", "way", "end", "charge", "lift", "yield")
 
@@ -43,12 +45,19 @@ def some_charts(chosen, most):
 
 
 def cases(name, many, most=2, longest=5, words=ALL_WORDS, people=PEOPLE[:3], charges=CHARGES):
-    """Pairs (chart, history); among them MAPS without AREAS, without land, and the HISTORY ()."""
+    """Pairs (chart, history); among them MAPS without AREAS, without land, and the HISTORY ().
+
+    In each fourth one areas, people and charges have NAMES in common.
+    """
     chosen = Random(name)
     found = [(((), ()), ()), (((), ((),)), ()), ((("a",), ()), ())]
-    for _ in range(many):
+    for at in range(many):
         chart = some_charts(chosen, most)
-        found.append((chart, some_history(chosen, chart[0], longest, words, people, charges)))
+        if at % 4 == 3:
+            history = some_history(chosen, chart[0], longest, words, SHORT[:len(people)], SHORT[:len(charges)])
+        else:
+            history = some_history(chosen, chart[0], longest, words, people, charges)
+        found.append((chart, history))
     return found
 
 

@@ -10,7 +10,7 @@ from tests import histories, plain, plain_deeds
 WORDS = ("charge", "charge", "charge", "lift", "yield", "yield", "give", "whole", "way", "vest")
 CASES = (histories.cases("charges", 250, 2, 6, WORDS) + histories.cases("rows", 150, 3, 9, WORDS[:6])
          + histories.cases("four", 60, 2, 7, WORDS[:6], histories.PEOPLE, ("debt", "due", "loan", "rent")))
-NAMES = ("debt", "due", "loan", "none", "rent")
+NAMES = ("a", "b", "c", "d", "debt", "due", "loan", "none", "rent")
 
 
 def tangled(many):
@@ -146,7 +146,7 @@ class OneRow(unittest.TestCase):
                 self.assertTrue(is_round(chart, history, found))
             self.assertIs(charges.is_charge_round(chart, history, found), found is not None)
             for many in range(5):
-                for names in permutations(NAMES, many):
+                for names in permutations(sorted({*standing, "loan", "none"}), many):
                     wanted = many > 1 and is_round(chart, history, names)
                     self.assertIs(charges.is_charge_round(chart, history, names), wanted)
             seen[bool(fit)] += 1

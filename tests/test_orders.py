@@ -21,7 +21,8 @@ def some_cases(name, many, longest, words, spots):
         chart = histories.some_charts(chosen, 2)
         cuts = [((),)] * 3 + [(condition,) for condition in plain.all_conditions(chart[0])]
         if len(plain.let(chart)) <= spots:
-            found.append((chart, tuple(histories.some_deed(chosen, chosen.choice(words), cuts, PEOPLE, CHARGES)
+            names = (PEOPLE, CHARGES) if chosen.random() < 0.7 else (histories.SHORT[:3], histories.SHORT[:2])
+            found.append((chart, tuple(histories.some_deed(chosen, chosen.choice(words), cuts, *names)
                                        for _ in range(min(longest, chosen.choice((1, 2, 3, 3, 4, 4, 5)))))))
     return found
 
@@ -174,7 +175,19 @@ class Holding(unittest.TestCase):
                 self.look_at(chart, history, waits, hold, end)
                 seen[hold, end] = seen.get((hold, end), 0) + 1
         self.assertEqual(set(seen), {(True, True), (False, True), (False, False)})
-        self.assertGreater(min(seen.values()), 5, seen)
+
+    def test_the_end_alone_holds(self):
+        """Behind a last DEED for which all others are waited all may be the same, whatever was so ahead of it."""
+        seen = {}
+        for at, (chart, history) in enumerate(cases("end", 120)):
+            deeds = history[:3] + ((("vest", "ann", ((),)),) if at % 2 else (("lift", "debt", ((),)),))
+            told, waits = Outcomes(chart, deeds), tuple((place, len(deeds) - 1) for place in range(len(deeds) - 1))
+            hold, end = told.land_apart(waits) == (), not told.end_apart(waits)
+            self.look_at(chart, deeds, waits, hold, end)
+            self.assertIs(orders.end_holds(chart, deeds, waits), end)
+            seen[hold, end] = seen.get((hold, end), 0) + 1
+        self.assertEqual(set(seen), {(True, True), (False, True), (False, False)})
+        self.assertGreater(min(seen.values()), 3, seen)
 
     def look_at(self, chart, history, waits, hold, end):
         paper = orders.waits_paper(chart, history, waits)
@@ -249,12 +262,17 @@ class Holding(unittest.TestCase):
 
     def test_way_hangs_on_owners(self):
         """The owners in the end are the same, but the way ends if they are the same in between."""
-        chart = (("a",), ((),)[1:])
+        chart = (("a",), ())
         in_a, out = ((("a", True),),), ((("a", False),),)
-        history = (("vest", "ann", in_a), ("way", in_a, out), ("vest", "ann", out), ("vest", "bob", out))
-        for waits in plain.subsets(pairs_of(history)):
-            wanted = Outcomes(chart, history).land_apart(waits)
-            self.assertEqual(orders.land_apart(chart, history, waits), wanted)
+        for history in ((("vest", "ann", in_a), ("way", in_a, out), ("vest", "ann", out), ("vest", "bob", out)),
+                        (("give", "ann", "bob", in_a), ("give", "bob", "cid", out), ("way", in_a, out)),
+                        (("give", "ann", "bob", in_a), ("give", "bob", "cid", out), ("way", in_a, out), ("end", in_a, out))):
+            told = Outcomes(chart, history)
+            for waits in plain.subsets(pairs_of(history)):
+                self.assertEqual(orders.land_apart(chart, history, waits), told.land_apart(waits))
+                self.assertIs(orders.end_holds(chart, history, waits), not told.end_apart(waits))
+        self.assertIs(orders.waits_hold(chart, history[:3], ()), False)
+        self.assertIs(orders.waits_hold(chart, history[:3], ((0, 2), (1, 2))), True)
 
 
 class Papers(unittest.TestCase):

@@ -8,7 +8,7 @@ from landpoints import titles
 from landpoints.errors import CanNot
 from tests import grounds, histories, plain, plain_deeds
 
-PEOPLE = ("ann", "bob", "cid", "zed")
+PEOPLE = ("a", "ann", "bob", "cid", "zed")
 CASES = histories.cases("titles", 150) + histories.cases("more titles", 150, 3, 4, histories.TITLES)
 
 

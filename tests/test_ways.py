@@ -8,7 +8,7 @@ from tests import grounds, histories, plain, plain_deeds
 
 WORDS = ("way", "way", "way", "end", "give", "vest", "swap", "charge")
 CASES = histories.cases("ways", 150, 2, 5, WORDS, ("ann", "bob"), ("debt", "loan"))
-FIRSTS = ("ann", "bob", "xan", "yul")
+FIRSTS = ("a", "ann", "bob", "xan", "yul")
 
 
 def two_points(chart, *listed):
@@ -153,8 +153,8 @@ class ForAllWorlds(unittest.TestCase):
         chosen = Random("may")
         seen = set()
         for chart, history in CASES:
-            for person in ("ann", "bob", "eve"):
-                worlds = list(plain_deeds.worlds(chart, 2, sorted({*FIRSTS, "eve"})))
+            for person in ("a", "ann", "eve"):
+                worlds = list(plain_deeds.worlds(chart, 2, sorted({*plain_deeds.people(history), person, "xan", "yul"})))
                 ends = [(world, plain_deeds.end(history, world)) for world in worlds]
                 cut, over = self.cut_and_over(chosen, chart)
                 wanted = all(may_go(state, 0, 1) for world, state in ends if state.owners[0] == person
@@ -237,6 +237,15 @@ class ManyPoints(unittest.TestCase):
             self.assertIs(ways.is_unlike_ways(chart, history, history[:1] + history, world), False)
         self.assertIs(ways.is_a_way(chart, history, in_a, in_b, others + ((("b",), 1, others[0][2]),)), True)
         self.assertIs(ways.is_a_way(chart, history, in_a, in_b, others[:1] + ((("b",), 1, others[0][2]),)), False)
+
+    def test_a_person_of_the_second_history_among_many(self):
+        chart, in_a, in_b = (("a", "b"), ()), ((("a", True),),), ((("b", True),),)
+        one = (("way", in_a, in_b),)
+        other = one + (("give", "cid", "dan", in_a),)
+        crowd = tuple((("a",), 1, name) for name in self.names(50)) + ((("b",), 1, "dan"),)
+        for world, wanted in ((crowd, False), (crowd + ((("a",), 1, "cid"),), True)):
+            self.assertIs(ways.is_unlike_ways(chart, one, other, world), wanted)
+            self.assertIs(ways.is_unlike_ways(chart, other, one, world), wanted)
 
     def test_very_many(self):
         chart = (("a",), ())

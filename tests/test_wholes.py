@@ -8,7 +8,7 @@ from landpoints import wholes
 from tests import histories, plain, plain_deeds
 
 WORDS = ("whole", "whole", "give", "vest", "swap", "charge")
-PEOPLE = ("ann", "bob", "cid")
+PEOPLE = ("a", "ann", "bob", "cid")
 
 
 def places_of(history):
@@ -203,7 +203,7 @@ class Splits(unittest.TestCase):
 
     def test_idle_checks(self):
         seen = set()
-        for chart, history in cases("idle", 200, 2, 2, 4):
+        for chart, history in cases("idle", 500, 2, 2, 5):
             idle = []
             for place in places_of(history):
                 second = history[:place] + (("give",) + history[place][1:],) + history[place + 1:]

@@ -9,7 +9,7 @@ from landpoints.errors import CanNot
 from tests import histories, plain, plain_deeds
 
 CASES = histories.cases("wrongs", 200) + histories.cases("titles that are wrong", 200, 2, 5, histories.TITLES)
-NAMES = ("ann", "bob", "cid", "zed")
+NAMES = ("a", "ann", "bob", "cid", "zed")
 
 
 def along(history, places, spot, first):
