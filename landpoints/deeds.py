@@ -105,6 +105,13 @@ def parting_owner(one, other):
     return None
 
 
+def part_owners(one, other, world):
+    """Whether some POINT of the WORLD has unlike owners behind both HISTORIES."""
+    spots = list({spot: True for spot, _, _ in world})
+    rows = {spot: (turns_at(one, spot), turns_at(other, spot)) for spot in spots}
+    return any([owner_by(rows[spot][0], first) != owner_by(rows[spot][1], first) for spot, _, first in world])
+
+
 def people_of(deeds):
     """The set of the people who stand in these DEEDS, or VIEWS of such."""
     named = [name for deed in deeds if is_title(deed) for name in deed[1:-1]]

@@ -2,11 +2,10 @@
 
 from landpoints.areas import is_world
 from landpoints.charges import charges_behind
-from landpoints.deeds import alike_spots, people_of
+from landpoints.deeds import alike_spots, part_owners, people_of
 from landpoints.errors import NoDeed, Unfit
 from landpoints.paths import Paths, pairs_in
 from landpoints.runs import cases_of, is_free, two_runs, whole_run
-from landpoints.titles import owner_behind
 from landpoints.values import all_parts, as_tuples, is_ascending, is_number, is_row
 
 
@@ -188,12 +187,11 @@ def are_unlike(history, world, one, other):
     """Whether two runs lead to unlike owners, charges or ways in the WORLD."""
     near = [history[place] for place in one]
     far = [history[place] for place in other]
-    for spot, first in list({(spot, first): True for spot, _, first in world}):
-        if owner_behind(near, spot, first) != owner_behind(far, spot, first):
-            return True
-    for spot in list({spot: True for spot, _, _ in world}):
-        if charges_behind(near, spot) != charges_behind(far, spot):
-            return True
+    if part_owners(near, far, world):
+        return True
+    spots = list({spot: True for spot, _, _ in world})
+    if any([charges_behind(near, spot) != charges_behind(far, spot) for spot in spots]):
+        return True
     near_paths, far_paths = Paths(near), Paths(far)
     pairs = pairs_in(world, people_of(history))
     return any([near_paths.has_way(start, goal) != far_paths.has_way(start, goal) for start, goal in pairs])

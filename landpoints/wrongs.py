@@ -1,10 +1,9 @@
 """Wrong, doubtful and late deeds: whose land turns if DEEDS are left out, or done at another place."""
 
 from landpoints.areas import is_world, let_spots
-from landpoints.deeds import check_places, enough_firsts, fates, fates_at, owner_by, owners_by, parting_owner
-from landpoints.deeds import strangers, turned, turns_at, without
+from landpoints.deeds import check_places, enough_firsts, owners_by, part_owners, turned, turns_at, without
 from landpoints.errors import CanNot
-from landpoints.titles import parted_land
+from landpoints.titles import parted_land, parted_world
 from landpoints.values import as_set, as_tuples, is_number_set, is_row
 
 
@@ -48,22 +47,13 @@ def do_otherwise(chart, history, places):
 
 def wrong_paper(chart, history, places):
     """A WORLD of one POINT that has a wrong owner in the end."""
-    left = struck(history, places)
-    for spot in let_spots(chart):
-        first = parting_owner(fates_at(history, spot), fates_at(left, spot))
-        if first is not None:
-            return ((spot, 1, first),)
-    raise CanNot()
+    return parted_world(chart, history, struck(history, places))
 
 
 def is_wrong_paper(chart, history, places, thing):
     """Whether thing is a WORLD in which some POINT has a wrong owner in the end."""
     left = struck(history, places)
-    if not is_world(chart, thing):
-        return False
-    spots = list({spot: True for spot, _, _ in thing})
-    rows = {spot: (turns_at(history, spot), turns_at(left, spot)) for spot in spots}
-    return any([owner_by(rows[spot][0], first) != owner_by(rows[spot][1], first) for spot, _, first in thing])
+    return is_world(chart, thing) and part_owners(history, left, thing)
 
 
 def fewest_struck(history, spot, first, name):
@@ -133,9 +123,7 @@ def is_doubt_paper(chart, history, doubts, thing):
         return False
     near = without(history, [doubt for doubt in doubts if doubt not in one])
     far = without(history, [doubt for doubt in doubts if doubt not in other])
-    spots = list({spot: True for spot, _, _ in world})
-    rows = {spot: (turns_at(near, spot), turns_at(far, spot)) for spot in spots}
-    return any([owner_by(rows[spot][0], first) != owner_by(rows[spot][1], first) for spot, _, first in world])
+    return part_owners(near, far, world)
 
 
 def fewest_proofs(history, doubts, spot, first, name):

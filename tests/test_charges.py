@@ -58,7 +58,8 @@ class Rows(unittest.TestCase):
         stood = ("charge", "debt", ((),)), ("charge", "loan", ((),)), ("charge", "rent", ((),))
         for deed, wanted in ((("charge", "debt", ((),)), ("debt", "loan", "rent")),
                              (("charge", "due", ((),)), ("debt", "loan", "rent", "due")),
-                             (("lift", "loan", ((),)), ("debt", "rent")), (("lift", "due", ((),)), ("debt", "loan", "rent")),
+                             (("lift", "loan", ((),)), ("debt", "rent")), (("lift", "due", ((),)),
+                                                                           ("debt", "loan", "rent")),
                              (("yield", "debt", "loan", ((),)), ("loan", "debt", "rent")),
                              (("yield", "debt", "rent", ((),)), ("loan", "rent", "debt")),
                              (("yield", "rent", "debt", ((),)), ("debt", "loan", "rent")),
@@ -68,6 +69,13 @@ class Rows(unittest.TestCase):
             self.assertEqual(charges.charges_behind(stood + (deed,), ()), wanted)
         again = stood + (("lift", "debt", ((),)), ("charge", "debt", ((),)))
         self.assertEqual(charges.charges_behind(again, ()), ("loan", "rent", "debt"))
+
+    def test_people_are_no_charges(self):
+        history = (("charge", "a", ((),)), ("charge", "b", ((),)), ("give", "a", "b", ((),)), ("swap", "a", "b", ((),)),
+                   ("whole", "a", "b", ((),)), ("vest", "a", ((),)), ("way", ((),), ((),)))
+        self.assertEqual(charges.charges_behind(history, ()), ("a", "b"))
+        self.assertEqual(charges.charges_in(history[2:]), ())
+        self.assertEqual(charges.idle_charges(((), ()), history), ())
 
     def test_lands(self):
         for chart, history in CASES:

@@ -155,7 +155,8 @@ class OfWholes(DeedRaises):
 
     def test_guess(self):
         """At each of the numbers a "whole" is asked for, not only a DEED."""
-        for guess, first in (((0,), 0), ((1, 2, 3), 2), ((-3,), -3), ((-1, 0, 1), -1), ((1, 3, 4), 4), ((3, 10 ** 30), 10 ** 30),
+        for guess, first in (((0,), 0), ((1, 2, 3), 2), ((-3,), -3), ((-1, 0, 1), -1), ((1, 3, 4), 4),
+                             ((3, 10 ** 30), 10 ** 30),
                              ([0, 1], 0)):
             self.no_deed(first, wholes.played, self.book, guess)
             self.no_deed(first, wholes.ground, CHART, self.book, guess, "ann")
@@ -187,7 +188,8 @@ class OfOrders(DeedRaises):
         yield orders.how_many_orders, (HISTORY,), ()
         yield orders.let_orders, (HISTORY,), ()
         for chart in (CHART, BARE):
-            for function in (orders.waits_hold, orders.end_holds, orders.land_apart, orders.waits_paper, orders.end_paper):
+            for function in (orders.waits_hold, orders.end_holds, orders.land_apart, orders.waits_paper,
+                             orders.end_paper):
                 yield function, (chart, HISTORY), ()
         for thing in NO_THINGS:
             yield orders.is_order, (HISTORY,), (thing,)
@@ -195,8 +197,9 @@ class OfOrders(DeedRaises):
             yield orders.is_end_paper, (CHART, HISTORY), (thing,)
 
     def test_no_deed(self):
-        for waits, first in ((((0, 3),), 3), (((3, 4),), 3), (((-1, 0),), -1), (((0, 1), (1, 5)), 5), (((2, 1), (7, 8)), 7),
-                             (((5, -2), (0, 1)), 5), (((1, 1), (0, 0), (-9, 0)), -9), ([[0, 1], [10 ** 30, 0]], 10 ** 30)):
+        for waits, first in ((((0, 3),), 3), (((3, 4),), 3), (((-1, 0),), -1), (((0, 1), (1, 5)), 5),
+                             (((2, 1), (7, 8)), 7), (((5, -2), (0, 1)), 5), (((1, 1), (0, 0), (-9, 0)), -9),
+                             ([[0, 1], [10 ** 30, 0]], 10 ** 30)):
             for function, ahead, behind in self.each():
                 self.no_deed(first, function, *ahead, waits, *behind)
 

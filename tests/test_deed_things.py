@@ -1,4 +1,4 @@
-"""is_deed and its kind, of things of all sorts: each by one change from what is one, beside a look of the test's own."""
+"""is_deed and its kind, of things of all sorts, each by one change from what is one, beside a look of its own."""
 
 import unittest
 from itertools import product
@@ -13,8 +13,8 @@ DEEDS = (("give", "ann", "bob", IN_A), ("vest", "cid", ALL), ("swap", "bob", "an
          ("way", IN_A, ALL), ("end", (), IN_B), ("charge", "debt", ALL), ("lift", "debt", IN_A),
          ("yield", "debt", "loan", IN_B))
 ODD = (None, True, False, 0, 1, -1, 10 ** 40, "", "a", "ann", "Ann", "give", "whole", "keep", (), [], ((),), ("a",),
-       (("a", True),), (("a", 1),), grounds.nested(12), ("vest", "ann", ((),)), ("whole", "ann", "bob", ()), ("way", (), ()),
-       ("vest", "", ()))
+       (("a", True),), (("a", 1),), grounds.nested(12), ("vest", "ann", ((),)), ("whole", "ann", "bob", ()),
+       ("way", (), ()), ("vest", "", ()))
 NAMES_OF = {"give": 2, "vest": 1, "swap": 2, "whole": 2, "way": 0, "end": 0, "charge": 1, "lift": 1, "yield": 2}
 
 
@@ -106,14 +106,17 @@ class Things(Looks):
 
     def test_is_history(self):
         for base in [(deed,) for deed in DEEDS] + [(), DEEDS[:2], DEEDS[:1] * 2]:
-            self.look(lambda thing: titles.is_history(CHART, thing), lambda thing: is_fine_history(CHART, thing), (base,))
+            self.look(lambda thing: titles.is_history(CHART, thing), lambda thing: is_fine_history(CHART, thing),
+                      (base,))
 
     def test_words_and_names(self):
-        for word in (*ODD_TEXTS, "gives", "Give", "GIVE", "give ", "sell", "whol", "ways", None, 1, True, ("give",), ["give"]):
+        for word in (*ODD_TEXTS, "gives", "Give", "GIVE", "give ", "sell", "whol", "ways", None, 1, True, ("give",),
+                     ["give"]):
             for rest in (("ann", "bob", ALL), ("ann", ALL), (ALL, ALL)):
                 self.assertIs(titles.is_deed(CHART, (word,) + rest), False)
         for name in FINE_NAMES:
-            for deed in (("give", name, "bob", ALL), ("vest", name, ()), ("swap", "bob", name, ()), ("lift", name, ALL)):
+            for deed in (("give", name, "bob", ALL), ("vest", name, ()), ("swap", "bob", name, ()),
+                         ("lift", name, ALL)):
                 self.assertIs(titles.is_deed(CHART, deed), True, deed)
                 self.assertIs(searches.is_view(CHART, (deed,)), True, deed)
             self.assertIs(titles.is_passing(((name, name),)), True)
@@ -140,7 +143,8 @@ class Things(Looks):
         self.assertIs(searches.is_view(TINY, whole), False)
         self.assertIs(searches.is_view(TINY, (("whole", "ann", "", ALL),)), False)
         self.assertIs(searches.is_filling(TINY, (("give", "ann", "", ALL),), whole), False)
-        self.assertIs(searches.is_unsure_paper(TINY, (("give", "ann", "cid", ALL),), ALL, ("ann",), (), (whole, world)), False)
+        self.assertIs(searches.is_unsure_paper(TINY, (("give", "ann", "cid", ALL),), ALL, ("ann",), (),
+                                               (whole, world)), False)
 
     def test_is_view(self):
         views = ((("give", "ann", "", IN_A),), (("vest", "", ALL),), (("vest", "zed", ()), ("give", "zed", "", ALL)),
@@ -148,7 +152,8 @@ class Things(Looks):
         self.look(lambda thing: searches.is_view(CHART, thing), lambda thing: is_fine_view(CHART, thing), views)
         for giver in ("a", "b", "zed", "zzzzzzzz"):
             self.assertIs(searches.is_view(CHART, (("give", giver, "", ALL),)), True)
-        for deed in (("swap", "ann", "", ALL), ("swap", "", "ann", ALL), ("give", "", "ann", ALL), ("give", "", "", ALL),
+        for deed in (("swap", "ann", "", ALL), ("swap", "", "ann", ALL), ("give", "", "ann", ALL),
+                     ("give", "", "", ALL),
                      ("charge", "", ALL), ("lift", "", ALL), ("yield", "", "debt", ALL), ("way", "", ALL)):
             self.assertIs(searches.is_view(CHART, (deed,)), False)
 
@@ -197,10 +202,12 @@ class Things(Looks):
                   (((("a",), 1, "ann"),), ((("a", "b"), 10 ** 30, "ann"),)), odd)
 
     def test_is_search(self):
-        history = (("give", "ann", "bob", ALL), ("way", ALL, ALL), ("give", "bob", "cid", ALL), ("give", "dan", "bob", ALL))
+        history = (("give", "ann", "bob", ALL), ("way", ALL, ALL), ("give", "bob", "cid", ALL),
+                   ("give", "dan", "bob", ALL))
         odd = ODD + (2, 3, 4, -2, 10 ** 40, -10 ** 40, (0,))
         self.look(lambda thing: searches.is_search(CHART, history, ALL, ("ann",), thing),
-                  lambda thing: is_fine_set(thing, range(4)) and {0, 2} <= set(thing), ((0, 2), (0, 1, 2), (0, 1, 2, 3)), odd)
+                  lambda thing: is_fine_set(thing, range(4)) and {0, 2} <= set(thing),
+                  ((0, 2), (0, 1, 2), (0, 1, 2, 3)), odd)
         self.look(lambda thing: searches.is_search(CHART, history, ALL, (), thing),
                   lambda thing: is_fine_set(thing, range(4)), ((), (1, 3)), odd)
         self.assertIs(searches.is_search(CHART, history, ALL, ("ann",), tuple(range(10 ** 5))), False)
@@ -248,7 +255,8 @@ class Worlds(Looks):
                             lambda world: (("a",), ()) in there(world),
                             (((("a",), 1, "cid"), ((), 5, "bob")), ((("a",), 1, "dan"), ((), 5, "cid"))))
         self.look_at_worlds(lambda thing: ways.is_no_go(SMALL, history, IN_A, out, thing), barred,
-                            (((("a",), 1, "ann"), ((), 5, "ann")), ((("a",), 1, "ann"), ((), 5, "ann"), ((), 1, "cid"))))
+                            (((("a",), 1, "ann"), ((), 5, "ann")),
+                             ((("a",), 1, "ann"), ((), 5, "ann"), ((), 1, "cid"))))
         self.look_at_worlds(lambda thing: ways.is_unlike_ways(SMALL, history, (), thing),
                             lambda world: bool(there(world)),
                             (((("a",), 1, "cid"), ((), 5, "bob")), ((("a",), 1, "dan"), (("a",), 5, "cid"))))
@@ -272,7 +280,8 @@ class Worlds(Looks):
 
         world = self.bases()[0]
         self.look(lambda thing: wrongs.is_doubt_paper(SMALL, history, (0, 1), thing), wanted,
-                  ((world, (), (0,)), (world, (0, 1), (1,)), (world, (0, 1), (0,))), self.ODD_POINTS + ((0,), (1, 0), [0]))
+                  ((world, (), (0,)), (world, (0, 1), (1,)), (world, (0, 1), (0,))),
+                  self.ODD_POINTS + ((0,), (1, 0), [0]))
 
     def test_wholes(self):
         history = (("whole", "ann", "bob", IN_A), ("whole", "bob", "cid", ALL))
@@ -336,10 +345,11 @@ class Orders(Looks):
 
         world = ((("a",), 3, "dan"),)
         for ended in (False, True):
-            bases = ((world, (0, 1, 2), (0, 2, 1)),) if ended else ((world, (0, 1), (1, 0)), (world * 2, (1, 0, 2), (0, 2, 1)))
+            bases = ((world, (0, 1, 2), (0, 2, 1)), (world * 2, (1, 0, 2), (0, 2, 1)), (world, (0, 1), (1, 0)))
             tells = orders.is_end_paper if ended else orders.is_waits_paper
             self.look(lambda thing: tells(SMALL, history, waits, thing),
-                      lambda thing: wanted(thing) and (not ended or len(thing[1]) == 3), bases, self.NUMBERS + (((), 1, "ann"),))
+                      lambda thing: wanted(thing) and (not ended or len(thing[1]) == 3), bases,
+                      self.NUMBERS + (((), 1, "ann"),))
 
 
 class Rounds(Looks):

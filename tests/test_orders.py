@@ -1,4 +1,4 @@
-"""Orders beside a plain look: all let ORDERS and all pairs of runs of the same DEEDS, in WORLDS of one and two POINTS."""
+"""Orders beside a plain look: all let ORDERS and all runs of the same DEEDS, in WORLDS of one and two POINTS."""
 
 import unittest
 from itertools import combinations, permutations, product
@@ -190,24 +190,18 @@ class Holding(unittest.TestCase):
         self.assertGreater(min(seen.values()), 3, seen)
 
     def look_at(self, chart, history, waits, hold, end):
-        paper = orders.waits_paper(chart, history, waits)
-        self.assertEqual(paper is None, hold)
-        self.assertIs(orders.is_waits_paper(chart, history, waits, paper), not hold)
-        if paper is not None:
+        for make, tells, fits, ended in ((orders.waits_paper, orders.is_waits_paper, hold, False),
+                                         (orders.end_paper, orders.is_end_paper, end, True)):
+            paper = make(chart, history, waits)
+            self.assertEqual(paper is None, fits)
+            self.assertIs(tells(chart, history, waits, paper), not fits)
+            if paper is None:
+                continue
             world, one, other = paper
             self.assertIn(len(world), (1, 2))
             self.assertLessEqual({point[0] for point in world}, set(plain.let(chart)))
             self.assertTrue(lets(waits, one) and lets(waits, other) and sorted(one) == sorted(other))
-            self.assertTrue(unlike(history, world, one, other))
-        paper = orders.end_paper(chart, history, waits)
-        self.assertEqual(paper is None, end)
-        self.assertIs(orders.is_end_paper(chart, history, waits, paper), not end)
-        if paper is not None:
-            world, one, other = paper
-            self.assertIn(len(world), (1, 2))
-            self.assertLessEqual({point[0] for point in world}, set(plain.let(chart)))
-            self.assertTrue(lets(waits, one) and lets(waits, other))
-            self.assertTrue(sorted(one) == sorted(other) == list(range(len(history))))
+            self.assertTrue(not ended or len(one) == len(history))
             self.assertTrue(unlike(history, world, one, other))
 
     def test_five_deeds(self):
@@ -260,13 +254,24 @@ class Holding(unittest.TestCase):
         self.assertEqual(len(orders.waits_paper(chart, history, ())[0]), 2)
         self.assertIs(orders.waits_hold(chart, history, ((0, 1),)), True)
 
+    def test_people_are_no_charges(self):
+        chart, in_a, out, all_land = (("a",), ()), ((("a", True),),), ((("a", False),),), ((),)
+        for history in ((("way", in_a, out), ("yield", "a", "b", in_a), ("charge", "a", all_land),
+                         ("lift", "b", all_land)),
+                        (("give", "a", "b", in_a), ("charge", "a", all_land), ("yield", "b", "a", all_land))):
+            self.assertIs(orders.waits_hold(chart, history, ()), True)
+            self.assertEqual(orders.loosest_waits(chart, history), [()])
+        history = (("charge", "a", all_land), ("charge", "b", all_land), ("give", "a", "b", all_land))
+        self.assertEqual(orders.loosest_waits(chart, history), [((0, 1),)])
+
     def test_way_hangs_on_owners(self):
         """The owners in the end are the same, but the way ends if they are the same in between."""
         chart = (("a",), ())
         in_a, out = ((("a", True),),), ((("a", False),),)
         for history in ((("vest", "ann", in_a), ("way", in_a, out), ("vest", "ann", out), ("vest", "bob", out)),
                         (("give", "ann", "bob", in_a), ("give", "bob", "cid", out), ("way", in_a, out)),
-                        (("give", "ann", "bob", in_a), ("give", "bob", "cid", out), ("way", in_a, out), ("end", in_a, out))):
+                        (("give", "ann", "bob", in_a), ("give", "bob", "cid", out), ("way", in_a, out),
+                         ("end", in_a, out))):
             told = Outcomes(chart, history)
             for waits in plain.subsets(pairs_of(history)):
                 self.assertEqual(orders.land_apart(chart, history, waits), told.land_apart(waits))
@@ -302,7 +307,8 @@ class Papers(unittest.TestCase):
         for waits, one, other, wanted in (
                 ((), (0, 1), (1, 0), True), ((), (0, 1, 2), (1, 2, 0), True), ((), (0, 1), (0, 2), False),
                 ((), (0,), (1,), False), ((), (0, 1), (0, 1), False), ((), (), (), False), ((), (0, 0), (0, 0), False),
-                (((0, 1),), (0, 1), (1, 0), False), (((0, 1),), (0, 2), (2, 0), True), (((0, 1),), (1, 2), (2, 1), False),
+                (((0, 1),), (0, 1), (1, 0), False), (((0, 1),), (0, 2), (2, 0), True), (((0, 1),), (1, 2), (2, 1),
+                                                                                        False),
                 (((0, 1),), (0, 1, 2), (0, 2, 1), True), ((), (0, 3), (3, 0), False), ((), (-1, 0), (0, -1), False),
                 ((), [0, 1], (1, 0), False), ((), (False, True), (True, False), False), ((), (0, True), (1, 0), False),
                 ((), (0, 1, 2, 0), (0, 1, 2, 1), False), ((), None, (), False), ((), "", "", False)):
@@ -314,7 +320,8 @@ class Papers(unittest.TestCase):
         chart, all_land = (("a",), ()), ((),)
         history = (("give", "ann", "bob", all_land), ("give", "bob", "cid", all_land), ("way", all_land, all_land))
         crowd = tuple((("a",), 1, "p" + one + other) for one, other in product("abcdefghijklmnopqrst", repeat=2))
-        for world, one, other, wanted in ((crowd, (0, 1), (1, 0), False), (crowd + (((), 1, "ann"),), (0, 1), (1, 0), True),
+        for world, one, other, wanted in ((crowd, (0, 1), (1, 0), False),
+                                          (crowd + (((), 1, "ann"),), (0, 1), (1, 0), True),
                                           (crowd * 5, (0, 2), (2, 0), False), ((), (0, 1), (1, 0), False),
                                           (crowd[:1] + (((), 1, "ann"), ((), 1, "bob")), (0, 2), (2, 0), False)):
             self.assertIs(orders.is_waits_paper(chart, history, (), (world, one, other)), wanted)

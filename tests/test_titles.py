@@ -90,7 +90,8 @@ class Titles(unittest.TestCase):
             idle = []
             for place, deed in enumerate(history):
                 felt = plain_deeds.spots_where(chart, lambda spot: any(
-                    row[place] != row[place + 1] for row in (plain_deeds.owners(history, spot, first) for first in told)))
+                    row[place] != row[place + 1]
+                    for row in (plain_deeds.owners(history, spot, first) for first in told)))
                 self.assertEqual(titles.felt_land(chart, history, place), felt)
                 if not felt and deed[0] in ("give", "vest", "swap"):
                     idle.append(place)

@@ -79,22 +79,6 @@ class ForAllWorlds(unittest.TestCase):
     def cut_and_over(self, chosen, chart):
         return histories.some_cut(chosen, chart), histories.some_cut(chosen, chart)
 
-    def test_who_may_go(self):
-        chosen = Random("go")
-        seen = set()
-        for chart, history in CASES:
-            worlds = two_points(chart, history)
-            for cut, over in [self.cut_and_over(chosen, chart) for _ in range(3)] + [(grounds.ALL, grounds.ALL)]:
-                none = [world for world in worlds if is_no_go(history, world, cut, over)]
-                self.assertIs(ways.all_may_go(chart, history, cut, over), not none)
-                paper = ways.no_go(chart, history, cut, over)
-                self.look_at(paper, none, chart)
-                self.assertIs(ways.is_no_go(chart, history, cut, over, paper), bool(none))
-                for world in worlds[::7]:
-                    self.assertIs(ways.is_no_go(chart, history, cut, over, world), world in none)
-                seen.add(bool(none))
-        self.assertEqual(seen, {True, False})
-
     def look_at(self, paper, worlds, chart):
         """Looks if the paper is one of the WORLDS, whatever strangers and sizes it has; None if there is none."""
         self.assertEqual(paper is None, not worlds)
@@ -102,34 +86,29 @@ class ForAllWorlds(unittest.TestCase):
             self.assertEqual(len(paper), 2)
             self.assertTrue(all(point[0] in plain.let(chart) for point in paper))
 
-    def test_ways(self):
-        chosen = Random("there")
+    def look(self, shows, all_fit, a_paper, is_paper):
+        """Compares what is told of cut and over with the WORLDS of two POINTS that show that it is not so."""
+        chosen = Random("for all")
         seen = set()
         for chart, history in CASES:
             worlds = two_points(chart, history)
             for cut, over in [self.cut_and_over(chosen, chart) for _ in range(3)] + [(grounds.ALL, grounds.ALL)]:
-                some = [world for world in worlds if is_a_way(history, world, cut, over)]
-                self.assertIs(ways.none_has_way(chart, history, cut, over), not some)
-                paper = ways.a_way(chart, history, cut, over)
-                self.look_at(paper, some, chart)
-                self.assertIs(ways.is_a_way(chart, history, cut, over, paper), bool(some))
-                if paper is not None:
-                    self.assertTrue(is_a_way(history, paper, cut, over))
+                found = [world for world in worlds if shows(history, world, cut, over)]
+                self.assertIs(all_fit(chart, history, cut, over), not found)
+                paper = a_paper(chart, history, cut, over)
+                self.look_at(paper, found, chart)
+                self.assertTrue(paper is None or shows(history, paper, cut, over))
+                self.assertIs(is_paper(chart, history, cut, over, paper), bool(found))
                 for world in worlds[::7]:
-                    self.assertIs(ways.is_a_way(chart, history, cut, over, world), world in some)
-                seen.add(bool(some))
+                    self.assertIs(is_paper(chart, history, cut, over, world), world in found)
+                seen.add(bool(found))
         self.assertEqual(seen, {True, False})
 
-    def test_papers_show_it(self):
-        chosen = Random("shown")
-        for chart, history in CASES:
-            cut, over = self.cut_and_over(chosen, chart)
-            paper = ways.no_go(chart, history, cut, over)
-            self.assertTrue(paper is None or is_no_go(history, paper, cut, over))
-            other = histories.some_history(chosen, chart[0], 4, WORDS, ("ann", "cid"))
-            paper = ways.unlike_ways(chart, history, other)
-            self.assertTrue(paper is None
-                            or plain_deeds.end(history, paper).ways != plain_deeds.end(other, paper).ways)
+    def test_who_may_go(self):
+        self.look(is_no_go, ways.all_may_go, ways.no_go, ways.is_no_go)
+
+    def test_who_has_a_way(self):
+        self.look(is_a_way, ways.none_has_way, ways.a_way, ways.is_a_way)
 
     def test_things_of_many_points(self):
         chosen = Random("many")
@@ -154,7 +133,8 @@ class ForAllWorlds(unittest.TestCase):
         seen = set()
         for chart, history in CASES:
             for person in ("a", "ann", "eve"):
-                worlds = list(plain_deeds.worlds(chart, 2, sorted({*plain_deeds.people(history), person, "xan", "yul"})))
+                worlds = list(plain_deeds.worlds(chart, 2,
+                                                 sorted({*plain_deeds.people(history), person, "xan", "yul"})))
                 ends = [(world, plain_deeds.end(history, world)) for world in worlds]
                 cut, over = self.cut_and_over(chosen, chart)
                 wanted = all(may_go(state, 0, 1) for world, state in ends if state.owners[0] == person
@@ -206,6 +186,8 @@ class ForAllWorlds(unittest.TestCase):
                 self.assertIs(ways.same_ways(chart, one, other), not unlike)
                 paper = ways.unlike_ways(chart, one, other)
                 self.look_at(paper, unlike, chart)
+                self.assertTrue(paper is None
+                                or plain_deeds.end(one, paper).ways != plain_deeds.end(other, paper).ways)
                 self.assertIs(ways.is_unlike_ways(chart, one, other, paper), bool(unlike))
                 for world in worlds[::9]:
                     self.assertIs(ways.is_unlike_ways(chart, one, other, world), world in unlike)

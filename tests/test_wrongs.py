@@ -66,7 +66,8 @@ class Wrong(unittest.TestCase):
                             if row[place] != other[place] and row[place + 1] == other[place + 1]}
                     if land:
                         healed.append((place, tuple(sorted(land))))
-                    if any((row[place] != row[place + 1]) != (other[place] != other[place + 1]) for _, row, other in rows):
+                    if any((row[place] != row[place + 1]) != (other[place] != other[place + 1])
+                           for _, row, other in rows):
                         otherwise.append(place)
                 self.assertEqual(wrongs.healed(chart, history, places), healed)
                 self.assertEqual(wrongs.do_otherwise(chart, history, places), tuple(otherwise))
@@ -184,7 +185,8 @@ class Doubts(unittest.TestCase):
         for chosen, chart, history, doubts in self.each_case("doubt papers"):
             if wrongs.doubt_land(chart, history, doubts):
                 world, one, other = wrongs.doubt_paper(chart, history, doubts)
-                self.assertTrue({*one, *other} <= set(doubts) and {point[0] for point in world} <= set(plain.let(chart)))
+                self.assertLessEqual({*one, *other}, set(doubts))
+                self.assertLessEqual({point[0] for point in world}, set(plain.let(chart)))
                 self.assertTrue(any(by_choice(history, doubts, one, spot, first)
                                     != by_choice(history, doubts, other, spot, first) for spot, _, first in world))
                 self.assertIs(wrongs.is_doubt_paper(chart, history, doubts, (world, one, other)), True)
