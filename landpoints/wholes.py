@@ -115,17 +115,37 @@ def fewest_split(chart, history, second):
 
 def split_world(chart, history, second):
     """A WORLD of as few POINTS as can be in which some POINT has unlike owners behind both; None if there is none."""
-    best = None
-    for options, goal in split_options(chart, history, second):
-        world = least_world(options, goal)
-        if world is not None and (best is None or len(world) < len(best)):
-            best = world
-    return best
+    return smallest([least_world(options, goal) for options, goal in split_options(chart, history, second)])
 
 
 def is_split_world(chart, history, second, thing):
     """Whether thing is a WORLD in which some POINT has unlike owners behind both HISTORIES."""
     return is_world(chart, thing) and owners_in(thing, history) != owners_in(thing, second)
+
+
+def refused_world(chart, history, place):
+    """A WORLD of as few POINTS as can be in which this "whole" is refused; None if there is none."""
+    check_wholes(history, (place,))
+    # What follows does not tell on it.
+    row = as_tuples(history)[:place + 1]
+    worlds = [world_for(chart, row, guess) for guess in all_parts(wholes_of(row)) if place not in guess]
+    return smallest(worlds)
+
+
+def lost_world(chart, history, person, cut):
+    """A WORLD of as few POINTS as can be, one in the CUT not this person's behind the HISTORY; None if none is."""
+    cases, worlds = cases_in(chart, history, (("vest", person, cut),), ()), []
+    wholes = wholes_of(history)
+    for guess in all_parts(wholes):
+        options = {}
+        for spot, first, turns, _ in cases:
+            told = trial(turns, guess, first)
+            if told is not None:
+                lost = (-1,) if told[0] != person and is_in(spot, cut) else ()
+                options.setdefault(lost + told[1], (spot, 1, first))
+        goal = (-1,) + tuple([place for place in wholes if place not in guess])
+        worlds.append(least_world(options, goal))
+    return smallest(worlds)
 
 
 def check_wholes(history, places):
@@ -234,6 +254,11 @@ def least_world(options, goal):
                     later.append(grown)
         edge = later
     return None
+
+
+def smallest(worlds):
+    """One of these with the fewest POINTS, None being no WORLD; None if there is none."""
+    return min([world for world in worlds if world is not None], key=len, default=None)
 
 
 def many_points(world):

@@ -9,7 +9,7 @@ from landpoints import errors
 FOLDER = Path(__file__).parent / "examples"
 # In the order of the document, with the number of examples of each.
 FILES = {"areas": 9, "plans": 12, "titles": 10, "searches": 10, "ways": 10, "wrongs": 9, "charges": 9, "wholes": 10,
-         "orders": 12}
+         "orders": 12, "offices": 9, "joins": 10, "rents": 10, "judge": 9, "board": 10, "texts": 10, "desk": 5}
 
 
 def calls_in(text):
