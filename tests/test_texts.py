@@ -192,7 +192,7 @@ class Pieces(Texts):
                              (fine + "\ngive / ann / ann / *\n\n", 1), (fine + " ", 0), ("vest / ann / ", 0)):
             self.bad(BadLine, number, texts.read_history, self.chart, text)
         # The survey does not tell on CUTS.
-        self.assertEqual(texts.read_history((("a",), ((),)), "vest / ann / a -a"[:-3]), (("vest", "ann", ((("a", True),),)),))
+        self.assertEqual(texts.read_history((("a",), ((),)), "vest / ann / a"), (("vest", "ann", ((("a", True),),)),))
 
     def test_numbers_of_many_digits(self):
         digits = "9" * 5000
