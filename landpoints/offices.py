@@ -117,7 +117,7 @@ def next_ask(chart, question, condition):
     names, answers = unasked(chart, condition), answers_in(chart, question, condition)
     many = asks_among(names, answers)
     for name in names:
-        if many > 0 and asks_by(names, answers, name) == many:
+        if asks_by(names, answers, name) == many:
             return name
     return None
 

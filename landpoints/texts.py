@@ -63,9 +63,9 @@ def read_land(chart, text):
 
 def read_world(chart, text):
     """The WORLD of the MAP with just this text."""
-    points = [] if text == "-" else [told_point(part) for part in text.split(" / ")]
+    points = [] if text == "-" else [told_point(chart, part) for part in text.split(" / ")]
     for piece, point in enumerate(points):
-        if point is None or not is_let_spot(chart, point[0]):
+        if point is None:
             raise BadText(piece)
     return tuple(points)
 
@@ -137,15 +137,15 @@ def told_deed(line):
     return deed if is_deed((areas_in(cuts), ()), deed) else None
 
 
-def told_point(part):
-    """The POINT of whatever areas with this text; None if there is none."""
+def told_point(chart, part):
+    """The POINT of the MAP with this text; None if there is none."""
     words = part.split(" ")
     if len(words) != 3:
         return None
-    spot, size, first = words
-    if told_spot(spot) is None or not is_number_text(size) or size == "0" or not is_name(first):
+    spot, size, first = told_spot(words[0]), words[1], words[2]
+    if not is_let_spot(chart, spot) or not is_number_text(size) or size == "0" or not is_name(first):
         return None
-    return told_spot(spot), told_number(size), first
+    return spot, told_number(size), first
 
 
 def is_number_text(word):

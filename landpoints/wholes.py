@@ -125,7 +125,6 @@ def is_split_world(chart, history, second, thing):
 
 def refused_world(chart, history, place):
     """A WORLD of as few POINTS as can be in which this "whole" is refused; None if there is none."""
-    check_wholes(history, (place,))
     # What follows does not tell on it.
     row = as_tuples(history)[:place + 1]
     worlds = [world_for(chart, row, guess) for guess in all_parts(wholes_of(row)) if place not in guess]

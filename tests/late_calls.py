@@ -1,11 +1,12 @@
-"""One call or more of each function of offices, joins, rents, judge, texts and desk, with the arguments by their names."""
+"""One call or more of each function of offices, joins, rents, judge, texts and desk, the arguments by their names."""
 
 CHART = (("a", "b"), ((("a", False), ("b", True)),))
 OPEN = (("a", "b"), ())
 ALL, NONE, IN_A, IN_B, OUT = ((),), (), ((("a", True),),), ((("b", True),),), ((("a", False),), (("b", False),))
 OFFICES = (("a",), ("b",), ())
 DEEDS = (("vest", "ann", IN_B), ("give", "ann", "bob", IN_A), ("swap", "bob", "cid", OUT))
-ROW = DEEDS + (("way", IN_A, ALL), ("charge", "debt", IN_A), ("yield", "debt", "loan", IN_B), ("whole", "ann", "cid", IN_B))
+ROW = DEEDS + (("way", IN_A, ALL), ("charge", "debt", IN_A), ("yield", "debt", "loan", IN_B),
+               ("whole", "ann", "cid", IN_B))
 ASKED, BOOK = ("owner", DEEDS), (("vest", "ann", IN_A), ("whole", "ann", "bob", ALL))
 FROM = ("from", "ann", DEEDS)
 WORLD = ((("a",), 3, "ann"), (("a", "b"), 10 ** 30, "bob"), ((), 1, "ann"))
@@ -15,7 +16,8 @@ PARCELS = (("east", IN_A), ("west", ((("a", False),),)))
 RENT, FLAT = ((IN_A, 3), (IN_B, -4)), ((ALL, 1),)
 SIZES = ((IN_A, 3), (IN_B, 5))
 PROMISES = (("none", IN_A), ("none", ()), ("within", IN_B, IN_A), ("parcels", PARCELS), ("has", DEEDS, "ann", IN_B),
-            ("owners", BOOK, DEEDS), ("let", BOOK, 1), ("go", DEEDS + ROW[3:4], IN_A, ALL), ("no way", ROW[3:4], IN_B, NONE),
+            ("owners", BOOK, DEEDS), ("let", BOOK, 1), ("go", DEEDS + ROW[3:4], IN_A, ALL),
+            ("no way", ROW[3:4], IN_B, NONE),
             ("ahead", ROW, "debt", "loan", ALL), ("rent", RENT, FLAT, 2), ("rent", RENT, RENT, 0),
             ("let", BOOK[:1] + (("whole", "ann", "bob", IN_B),), 1))
 WRONG = (("let", BOOK, 0), ("ahead", (), "x", "x", ALL), ("none", ((("c", True),),)), ("go", BOOK, ALL, ALL))
@@ -162,7 +164,8 @@ IN_TEXTS = (
 IN_DESK = (
     ("is_request", {"thing": "keep a a+-b"}),
     ("is_request", {"thing": ["undo"]}),
-    ("replies", {"areas": ("a", "b"), "text": "write " + "\nwrite ".join(LINES) + "\npoint a 7 ann\nowners\nworld\nkept"}),
+    ("replies", {"areas": ("a", "b"),
+                 "text": "write " + "\nwrite ".join(LINES) + "\npoint a 7 ann\nowners\nworld\nkept"}),
     ("replies", {"areas": ("a", "b"), "text": "chart\nlook"}),
     ("replies", {"areas": (), "text": ""}),
 )

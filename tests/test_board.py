@@ -40,7 +40,8 @@ def some_deed(chosen, board):
     (areas, bare), history, world = board.chart(), board.history(), board.world()
     cuts = grounds.some_cuts(areas, 4, 2) + [ALL, ALL]
     conditions = plain.all_conditions(areas)
-    name = chosen.choice(DEEDS + ("write",) * 6 + ("point",) * 5 + ("exchange", "strike", "leave", "undo", "undo", "drop"))
+    often = ("write",) * 6 + ("point",) * 5 + ("exchange", "strike", "leave", "undo", "undo", "drop")
+    name = chosen.choice(DEEDS + often)
     if name in ("area", "survey") and len(areas) < 3 or name == "undo":
         values = {"area": (chosen.choice("abcd"),), "survey": (chosen.choice(conditions),), "undo": ()}[name]
     elif name in ("area", "survey"):
@@ -245,7 +246,8 @@ class Copies(unittest.TestCase):
         told = (("area", {"name": "b"}), ("survey", {"condition": (("b", True),)}),
                 ("doubt", {"condition": (("b", True),)}), ("write", {"deed": ("vest", "ann", ALL)}),
                 ("write", {"deed": ("charge", "debt", ALL)}), ("exchange", {"place": 0}), ("strike", {"place": 1}),
-                ("point", {"first": "bob", "size": 2, "spot": ("a",)}), ("point", {"spot": (), "size": 1, "first": "bob"}),
+                ("point", {"first": "bob", "size": 2, "spot": ("a",)}),
+                ("point", {"spot": (), "size": 1, "first": "bob"}),
                 ("leave", {"place": 1}), ("keep", {"cut": ALL, "name": "k"}), ("keep", {"name": "l", "cut": ()}),
                 ("drop", {"name": "l"}))
         for name, given in told:

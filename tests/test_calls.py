@@ -152,7 +152,8 @@ class Calls(unittest.TestCase):
 
 class Interface(unittest.TestCase):
     def test_defined_where_listed(self):
-        self.assertEqual([len(names) for names in LISTED.values()], [30, 22, 28, 20, 21, 19, 14, 19, 15, 22, 13, 17, 11, 10, 2])
+        self.assertEqual([len(names) for names in LISTED.values()],
+                         [30, 22, 28, 20, 21, 19, 14, 19, 15, 22, 13, 17, 11, 10, 2])
         for module, names in LISTED.items():
             for name in names:
                 with self.subTest(name=name):

@@ -173,7 +173,8 @@ class Replies(unittest.TestCase):
             ("drop k", "refused CanNot"), ("inside k", "refused CanNot"), ("owner k", "refused CanNot"),
             ("surely k", "refused CanNot"), ("doubt a", "refused CanNot"), ("area a", "refused Known"),
             ("area b", "done"), ("survey a+b", "done"), ("chart", "a b / a+b"), ("survey *", "done"),
-            ("chart", "a b / * a+b"), ("point a 1 ann", "refused Unfit"), ("doubt *", "done"), ("point a 10 ann", "done"),
+            ("chart", "a b / * a+b"), ("point a 1 ann", "refused Unfit"), ("doubt *", "done"),
+            ("point a 10 ann", "done"),
             ("point * 1 ann", "done"), ("point b 5 bob", "done"), ("world", "a 10 ann / * 1 ann / b 5 bob"),
             ("survey *", "refused Unfit"), ("survey a", "refused Unfit"), ("write way / a / -a", "done"),
             ("ways", "0>2"), ("write vest / cid / b", "done"), ("changed", "2"), ("owners", "ann ann cid"),
@@ -207,8 +208,8 @@ class Replies(unittest.TestCase):
                  "surely k", "owner k")
         wanted = desk.replies(("a",), "\n".join(ahead + looks))
         for line in ("area a", "survey *", "survey -a", "survey sea", "doubt *", "write way / * / sea", "strike 2",
-                     "exchange 1", "exchange 9", "point * 0 ann", "point sea 1 ann", "leave 1", "keep k -", "keep n sea",
-                     "drop n", "deed 2", "charges 1", "inside n", "owner n", "surely n"):
+                     "exchange 1", "exchange 9", "point * 0 ann", "point sea 1 ann", "leave 1", "keep k -",
+                     "keep n sea", "drop n", "deed 2", "charges 1", "inside n", "owner n", "surely n"):
             found = desk.replies(("a",), "\n".join(ahead + (line,) + looks))
             self.assertTrue(found.pop(len(ahead)).startswith("refused "), line)
             self.assertEqual(found, wanted)
@@ -259,13 +260,17 @@ class Requests(unittest.TestCase):
         forms = {"name": (("a", "zzzzzzzz"), ("", "A", "abcdefghi", "a1", "-", "*", "a b", "a ", chr(228), "a\n")),
                  "number": (("0", "7", "10", "1" + "0" * 5000), ("", "-1", "+1", "01", "00", "1.0", "1_0", "a", "0x1",
                                                                  "1 ", chr(0x661), chr(0xb2), "-", "1\n")),
-                 "spot": (("*", "a", "sea+wood"), ("", "-", "-a", "wood+sea", "a+a", "+a", "a+", "a b", "*+a", "A", "a\n")),
-                 "condition": (("*", "a", "-a", "sea+-wood"), ("", "-", "--a", "wood+sea", "a+-a", "-a-b", "a b", "-*")),
-                 "cut": (("-", "*", "a", "-a a", "-sea+-wood sea"), ("", "a -a", "a a", "a  b", " a", "- a", "a -", "**")),
+                 "spot": (("*", "a", "sea+wood"), ("", "-", "-a", "wood+sea", "a+a", "+a", "a+", "a b", "*+a", "A",
+                                                   "a\n")),
+                 "condition": (("*", "a", "-a", "sea+-wood"), ("", "-", "--a", "wood+sea", "a+-a", "-a-b", "a b",
+                                                             "-*")),
+                 "cut": (("-", "*", "a", "-a a", "-sea+-wood sea"), ("", "a -a", "a a", "a  b", " a", "- a", "a -",
+                                                                 "**")),
                  "deed": (("give / ann / bob / *", "vest / a / -", "swap / b / a / a b", "whole / ann / bob / -a",
                            "way / * / sea", "end / - / -", "charge / a / a", "lift / a / *", "yield / a / b / -"),
-                          ("", "give", "give / ann / ann / *", "vest / ann", "vest / ann / * / *", "way / *", "look / a",
-                           "vest/ann/*", "vest / Ann / *", "give / ann / bob / b a", "vest / ann / *\nvest / ann / *"))}
+                          ("", "give", "give / ann / ann / *", "vest / ann", "vest / ann / * / *", "way / *",
+                           "look / a", "vest/ann/*", "vest / Ann / *", "give / ann / bob / b a",
+                           "vest / ann / *\nvest / ann / *"))}
         for word, kinds in FORMS.items():
             fine = [forms[kind][0][0] for kind in kinds]
             self.assertIs(desk.is_request(" ".join([word] + fine)), True)

@@ -244,7 +244,8 @@ class Written(unittest.TestCase):
                 found[wanted] += 1
             written = joins.written_join(chart, start, one, other)
             if written is not None:
-                for more in ((("give", "eve", "fay", ((),)),), (("swap", "eve", "fay", ()),), (("vest", "eve", ((),)),)):
+                for more in ((("give", "eve", "fay", ((),)),), (("swap", "eve", "fay", ()),),
+                             (("vest", "eve", ((),)),)):
                     wanted = writes(chart, start, one, other, written + more)
                     self.assertIs(joins.is_written_join(chart, start, one, other, written + more), wanted)
         self.assertGreater(min(found.values()), 100, found)

@@ -428,9 +428,9 @@ class Under(unittest.TestCase):
 class NoPromises(unittest.TestCase):
     chart = (("a",), ((("a", True),),))
     wrong = (None, True, 7, "none", "", (), ("none",), ("none", (), ()), ("none", ((("b", True),),)),
-             ("none", ((("a", 1),),)), ("within", ()), ("let", (("give", "ann", "bob", ()),), 0), ("let", (("whole", "ann", "bob", ()),), 1),
-             ("let", (("whole", "ann", "bob", ()),), -1), ("let", (("whole", "ann", "bob", ()),), False),
-             ("ahead", (), "x", "x", ()), ("go", (("whole", "ann", "bob", ()),), (), ()),
+             ("none", ((("a", 1),),)), ("within", ()), ("let", (("give", "ann", "bob", ()),), 0),
+             ("let", (("whole", "ann", "bob", ()),), 1), ("let", (("whole", "ann", "bob", ()),), -1),
+             ("let", (("whole", "ann", "bob", ()),), False), ("ahead", (), "x", "x", ()), ("go", (("whole", "ann", "bob", ()),), (), ()),
              ("no way", (("whole", "ann", "bob", ()),), (), ()), ("has", (), "Ann", ()), ("rent", (), (), True),
              ("rent", (), (), None), ("parcels", (("b", ()), ("a", ()))), ["none"], [["none", []]],
              ("owners", (), ("vest",)), ("noway", (), (), ()))

@@ -166,7 +166,8 @@ class OfRents(Looks):
     def test_is_sizes(self):
         for chart in (SMALL, CHART):
             self.look(lambda thing: rents.is_sizes(chart, thing),
-                      lambda thing: is_fine_rent(chart, thing) and len(thing) < 3 and all(pair[1] >= 0 for pair in thing),
+                      lambda thing: is_fine_rent(chart, thing) and len(thing) < 3
+                      and all(pair[1] >= 0 for pair in thing),
                       ((), ((IN_A, 3),), ((ALL, 10 ** 30), ((), 0)), ((IN_A, 1), (IN_A, 2)), ((ALL, 0),) * 3), ODD)
         self.assertIs(rents.is_sizes(SMALL, ((IN_A, 10 ** 3000),)), True)
         self.assertIs(rents.is_sizes(SMALL, ((IN_A, -1),)), False)
@@ -204,7 +205,8 @@ class OfJudge(Looks):
                       PROMISES, ODD + ("whole", "x", "bob", (("east", ()),)))
 
     def test_words(self):
-        for word in ("None", "none ", "noway", "no  way", "no way ", "lets", "rents", "", None, 0, True, ("none",), ["go"]):
+        for word in ("None", "none ", "noway", "no  way", "no way ", "lets", "rents", "", None, 0, True, ("none",),
+                     ["go"]):
             for promise in PROMISES:
                 self.assertIs(judge.is_promise(SMALL, (word, *promise[1:])), False)
         for promise, other in product(PROMISES, PROMISES):
@@ -213,8 +215,9 @@ class OfJudge(Looks):
 
     def test_whole_where_it_is_let_and_where_not(self):
         for promise, wanted in ((("has", BOOK, "ann", ALL), True), (("owners", BOOK, BOOK), True),
-                                (("let", BOOK, 1), True), (("let", BOOK, 0), False), (("ahead", BOOK, "a", "b", ()), True),
-                                (("go", BOOK, (), ()), False), (("no way", BOOK, (), ()), False),
+                                (("let", BOOK, 1), True), (("let", BOOK, 0), False),
+                                (("ahead", BOOK, "a", "b", ()), True), (("go", BOOK, (), ()), False),
+                                (("no way", BOOK, (), ()), False),
                                 (("let", BOOK, 2), False), (("let", BOOK, -1), False), (("let", BOOK, True), False),
                                 (("let", BOOK, 10 ** 30), False), (("let", (), 0), False)):
             self.assertIs(judge.is_promise(SMALL, promise), wanted, promise)

@@ -124,8 +124,8 @@ class Tells(unittest.TestCase):
     def test_an_answer_told_whole(self):
         """A "vest" tells who owns, whoever did first; a "give" does not."""
         all_land = ((),)
-        self.assertEqual(offices.answer_at(("owner", (("vest", "ann", all_land), ("give", "ann", "bob", all_land))), ()),
-                         "bob")
+        row = (("vest", "ann", all_land), ("give", "ann", "bob", all_land))
+        self.assertEqual(offices.answer_at(("owner", row), ()), "bob")
         self.assertIsNone(offices.answer_at(("owner", (("give", "ann", "bob", all_land),)), ()))
         self.assertIsNone(offices.answer_at(("owner", ()), ()))
         self.assertEqual(offices.answer_at(("from", "zed", ()), ()), "zed")
@@ -138,8 +138,9 @@ class Tells(unittest.TestCase):
             self.assertEqual(offices.own_offices(chart, row, question), owned)
             for office, own in enumerate(row):
                 self.assertIs(offices.is_own(chart, row, office, question), office in owned)
-                land = tuple(spot for spot in look.let if all(look.answers[spot] == look.answers[other]
-                                                              for other in look.let if seen(own, spot) == seen(own, other)))
+                land = tuple(spot for spot in look.let
+                             if all(look.answers[spot] == look.answers[other]
+                                    for other in look.let if seen(own, spot) == seen(own, other)))
                 self.assertEqual(offices.own_land(chart, row, office, question), land)
                 kinds.add((question[0], office in owned, bool(land)))
         self.assertGreaterEqual(len(kinds), 8, kinds)
@@ -184,7 +185,8 @@ class Tells(unittest.TestCase):
             let = plain.let(chart)
             for office, other in product(range(len(row)), repeat=2):
                 told = offices.knows_as_much(chart, row, office, other)
-                pairs = [pair for pair in combinations(let, 2) if seen(row[office], pair[0]) == seen(row[office], pair[1])]
+                own = row[office]
+                pairs = [(one, far) for one, far in combinations(let, 2) if seen(own, one) == seen(own, far)]
                 self.assertIs(told, all(seen(row[other], one) == seen(row[other], far) for one, far in pairs))
                 seen_answers.add(told)
                 if len(let) <= 4:
@@ -333,6 +335,28 @@ class Letters(unittest.TestCase):
         self.assertTrue(Looked(chart, question).is_letter(*row, dict(letter)))
         self.assertEqual({sign for _, sign in letter}, set(range(wanted)))
 
+    def test_beside_all_tables_of_eight_views(self):
+        """Views of the first office at random under each of four views of other, some in the CUT, some not."""
+        chosen, areas = Random("eight"), ("a", "b", "c", "d", "e")
+        exact = {spot: tuple((area, area in spot) for area in areas) for spot in plain.subsets(areas)}
+        found = {}
+        for _ in range(60):
+            let = [spot for spot in exact if chosen.random() < 0.5]
+            question = ("in", tuple(sorted(exact[spot] for spot in let if chosen.random() < 0.4)))
+            row = (areas[:3], areas[3:])
+            chart = areas, tuple(sorted(exact[spot] for spot in exact if spot not in let))
+            many = offices.fewest_signs(chart, row, 0, 1, question)
+            look = Looked(chart, question)
+            views = look.views(row[0])
+            letter = dict(offices.a_letter(chart, row, 0, 1, question))
+            self.assertTrue(look.is_letter(*row, letter))
+            self.assertEqual(set(letter.values()), set(range(many)))
+            # Fewer signs are never enough; what other names they have does not tell.
+            lists = product([0], *[range(min(at + 1, many - 1)) for at in range(1, len(views))])
+            self.assertFalse(any(look.is_letter(*row, dict(zip(views, signs))) for signs in lists if many > 1))
+            found[many] = found.get(many, 0) + 1
+        self.assertGreater(min(found.get(many, 0) for many in (2, 3)), 10, found)
+
     def test_signs_of_five_views_in_a_round(self):
         self.look_at_stars([(0, (1, 4)), (2, (1, 3)), (3, (4,))], 3)
 
@@ -374,7 +398,8 @@ class Errors(unittest.TestCase):
             self.raises(NoOffice, kept, offices.knows_as_much, chart, row, 1, number)
 
     def test_several_numbers(self):
-        for some, first in (((2,), 2), ((0, 1, 2, 3), 2), ((-2, -1, 0), -2), ((-1, 0, 7), -1), ([1, 10 ** 30], 10 ** 30)):
+        for some, first in (((2,), 2), ((0, 1, 2, 3), 2), ((-2, -1, 0), -2), ((-1, 0, 7), -1),
+                            ([1, 10 ** 30], 10 ** 30)):
             self.raises(NoOffice, {"number": first}, offices.are_together, self.chart, self.row, some, self.question)
 
     def test_no_area(self):

@@ -222,7 +222,8 @@ def in_cut(told, cut):
 class Sizes(unittest.TestCase):
     def sizes(self, chosen, chart):
         cuts = grounds.some_cuts(chart[0], 8, 2)
-        row = tuple((chosen.choice(cuts), chosen.choice((0, 1, 2, 3))) for _ in range(chosen.choice((0, 1, 2, 2, 2, 2))))
+        many = chosen.choice((0, 1, 2, 2, 2, 2))
+        row = tuple((chosen.choice(cuts), chosen.choice((0, 1, 2, 3))) for _ in range(many))
         if len(row) == 2 and chosen.random() < 0.2:
             row = (row[0], (row[0][0], row[1][1]))
         return row

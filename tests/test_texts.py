@@ -9,8 +9,9 @@ from tests import grounds, histories, plain, plain_texts
 
 LONG = (("abcdefgh", "b", "zzzzzzzz"), ())
 WORDS = histories.ALL_WORDS + ("whole", "whole", "end", "lift")
-ODD_TEXTS = ("", " ", "-", "--", "- -", "*", "**", "* *", "*+a", "a+*", "/", " / ", "-/-", "- / - / -", " /  / ", "+", "a+",
-             "+a", "a b", "b a", "a a", "a  b", " a", "a ", "a+b+a", "b+a", "-a+a", "a+-a", "--a", "- a", "abcdefgh",
+ODD_TEXTS = ("", " ", "-", "--", "- -", "*", "**", "* *", "*+a", "a+*", "/", " / ", "-/-", "- / - / -", " /  / ", "+",
+             "a+", "+a", "a b", "b a", "a a", "a  b", " a", "a ", "a+b+a", "b+a", "-a+a", "a+-a", "--a", "- a",
+             "abcdefgh",
              "abcdefghi", "A", "a\n", "\n", "\n\n", "a/b", "a /b", "a / b", "a / b / a", "1", "a 1 ann", "* 1 ann",
              "* 01 ann", "* 0 ann", "* 1  ann", "* 1 ann ", " * 1 ann", "* -1 ann", "* +1 ann", "* 1_0 ann",
              "* 1.0 ann", "* 1 Ann", "* 1 abcdefghi", "* 1", "1 ann", "* 1 ann / ", " / * 1 ann", "* 1 ann /* 1 ann",
@@ -165,7 +166,8 @@ class Pieces(Texts):
 
     def test_too_few_and_too_many(self):
         for text, piece in (("a", 1), ("-", 1), ("a b", 1), ("", 0), ("b a", 0), ("- / - / -", 2), ("a / - / - / -", 2),
-                            ("b a / - / -", 0), ("a / b / -", 1), ("a / - / ", 2), ("a / ", 1), (" / -", 0), ("a /-", 0)):
+                            ("b a / - / -", 0), ("a / b / -", 1), ("a / - / ", 2), ("a / ", 1), (" / -", 0),
+                            ("a /-", 0)):
             self.bad(BadText, piece, texts.read_map, text)
 
     def test_words(self):
@@ -180,8 +182,9 @@ class Pieces(Texts):
         self.assertEqual(texts.read_land(self.chart, "* a+b b"), ((), ("a", "b"), ("b",)))
 
     def test_points(self):
-        for text, piece in (("", 0), ("* 1 ann / ", 1), ("* 1 ann / -", 1), ("- / * 1 ann", 0), ("* 1 ann / a 1 ann", 1),
-                            ("* 1 ann / b 2 bob / a+b 00 x", 2), ("* 1 ann / * 0 ann / * x ann", 1), ("* 1 ann bob", 0),
+        for text, piece in (("", 0), ("* 1 ann / ", 1), ("* 1 ann / -", 1), ("- / * 1 ann", 0),
+                            ("* 1 ann / a 1 ann", 1), ("* 1 ann / b 2 bob / a+b 00 x", 2),
+                            ("* 1 ann / * 0 ann / * x ann", 1), ("* 1 ann bob", 0),
                             ("* 1 ann  / * 1 ann", 0), ("* 1 ann /  * 1 ann", 1), ("* ann 1", 0)):
             self.bad(BadText, piece, texts.read_world, self.chart, text)
 
