@@ -183,7 +183,7 @@ def written_turns(chart, turns, cut):
     goals = {near: goal for near, goal in turns}
     if "" in goals:
         return (("vest", goals[""], cut),)
-    for goal in [goal for _, goal in turns]:
+    for _, goal in turns:
         goals.setdefault(goal, goal)
     return making(chart, tuple(sorted(goals.items())), cut)
 

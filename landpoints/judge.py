@@ -76,7 +76,7 @@ def wanted_points(chart, promise, world):
     if not is_against(chart, told, points):
         raise Unfit()
     places = tuple(range(len(points)))
-    for _, part in sorted([(len(part), part) for part in all_parts(places)]):
+    for _, part in sorted([(len(some), some) for some in all_parts(places)]):
         if is_against(chart, told, tuple([points[place] for place in part])):
             return part
     return places
